@@ -95,7 +95,7 @@ def others_held(held, own, i):
 
 
 def cancelled(held, own, i):
-    """The parts when those of company i, the holder own, are cancelled; it may not hold itself wholly."""
+    """The parts when what company i, the holder own, has of itself is cancelled; that may not be all."""
     left = minus(WHOLE, held[own][i])
     fresh = copied(held)
     for h in range(len(fresh)):
