@@ -39,6 +39,55 @@ def real(p, j):
     return [7, p, j]
 
 
+def lost(j):
+    return [8, j]
+
+
+def strewn(j):
+    return [9, j]
+
+
+def realstrewn(j):
+    return [10, j]
+
+
+def inring(i):
+    return [11, i]
+
+
+def holding():
+    return [12]
+
+
+def plain():
+    return [13]
+
+
+def wouldhand(i, j):
+    return [14, i, j]
+
+
+def state():
+    return [15]
+
+
+# Two people and three companies, each of which holds some of every one.
+RING = [begin(2, 3), hold(0, 0, 1, 6), hold(3, 0, 1, 2), hold(4, 0, 1, 3), hold(1, 1, 1, 4), hold(2, 1, 1, 4),
+        hold(3, 1, 1, 4), hold(4, 1, 1, 4), hold(0, 2, 2, 5), hold(2, 2, 1, 5), hold(3, 2, 2, 5)]
+
+
+def holdings(random, m, n, let):
+    """A begin and holds, at random; of each company the parts are let by let or less of it together."""
+    calls = [begin(m, n)]
+    for j in range(n):
+        left = let
+        for h in random.sample(range(m + n), random.randint(0, min(m + n, 7))):
+            a = random.randint(0, left)
+            left -= a
+            calls.append(hold(h, j, a, let))
+    return calls
+
+
 def ask(calls):
     """The answer to each call, all of them on one new object."""
     if len(calls) > 40:
@@ -86,6 +135,19 @@ def all_real(calls, m, n):
     return asked_fractions(calls, {(p, j): real(p, j) for p in range(m) for j in range(n)})
 
 
+def of_each(call, calls, n):
+    """What call, one of strewn, realstrewn and lost, tells of each company behind the calls."""
+    told = asked_fractions(calls, {j: call(j) for j in range(n)})
+    return [told[j] for j in range(n)]
+
+
+def all_ends(calls, m, n):
+    """For each company: what each person really owns, what is strewn in the end, what is lost, as owned tells it."""
+    told = all_real(calls, m, n)
+    ends = [[told[p, j] for j in range(n)] for p in range(m)]
+    return ends + [of_each(realstrewn, calls, n), of_each(lost, calls, n)]
+
+
 def solved(rows):
     """The x of a system of as many equations as unknowns, each row its factors and then its right side."""
     rows = [list(row) for row in rows]
@@ -131,7 +193,9 @@ class Model:
     def ask(self, call):
         if call[0] != 0 and self.m == 0:
             return [-11]
-        names = (self.begin, self.hold, self.sell, self.cancel, self.hand, self.all_out, self.part, self.real)
+        names = (self.begin, self.hold, self.sell, self.cancel, self.hand, self.all_out, self.part, self.real,
+                 self.lost, self.strewn, self.realstrewn, self.inring, self.holding, self.plain, self.wouldhand,
+                 self.state)
         given = call[2:] if call[0] == 5 else call[1:]
         return names[call[0]](*([given] if call[0] == 5 else given))
 
@@ -192,8 +256,7 @@ class Model:
         for i in row:
             if self.parts[self.m + i, i] != 1:
                 self.hand_out(i)
-        told = sum(any(self.parts[self.m + i, j] > 0 for j in range(self.n) if j != i) for i in range(self.n))
-        return self.unless_too_great([told], kept)
+        return self.unless_too_great(self.holding()[:1], kept)
 
     def part(self, h, j):
         if (h, j) not in self.parts:
@@ -204,6 +267,54 @@ class Model:
         if p >= self.m or j >= self.n:
             return [-2]
         return [0, *owned(self.parts, self.m, self.n)[p][j].as_integer_ratio()]
+
+    def lost(self, j):
+        if j >= self.n:
+            return [-2]
+        return [0, *owned(self.parts, self.m, self.n)[-1][j].as_integer_ratio()]
+
+    def strewn(self, j):
+        if j >= self.n:
+            return [-2]
+        left = Fraction(1)
+        for h in range(self.m + self.n):
+            left -= self.parts[h, j]
+        return [0, *left.as_integer_ratio()]
+
+    def realstrewn(self, j):
+        if j >= self.n:
+            return [-2]
+        return [0, *owned(self.parts, self.m, self.n)[-2][j].as_integer_ratio()]
+
+    def inring(self, i):
+        if i >= self.n:
+            return [-2]
+        companies = range(self.n)
+        ways = {(x, y) for x in companies for y in companies if self.parts[self.m + x, y] > 0}
+        for by in companies:
+            ways |= {(x, y) for x in companies for y in companies if (x, by) in ways and (by, y) in ways}
+        return [int((i, i) in ways)]
+
+    def holding(self):
+        found = [i for i in range(self.n) if any(self.parts[self.m + i, j] > 0 for j in range(self.n) if j != i)]
+        return [len(found), *found]
+
+    def plain(self):
+        return [int(self.holding() == [0])]
+
+    def wouldhand(self, i, j):
+        if i >= self.n or j >= self.n:
+            return [-2]
+        if self.parts[self.m + i, i] == 1:
+            return [-33]
+        kept = dict(self.parts)
+        self.hand_out(i)
+        told = [number for h in range(self.m + self.n) for number in self.parts[h, j].as_integer_ratio()]
+        self.parts = kept
+        return [self.m + self.n] + told
+
+    def state(self):
+        return [self.m, self.n]
 
     def cancel_own(self, i):
         left = 1 - self.parts[self.m + i, i]

@@ -6,12 +6,19 @@ from pathlib import Path
 
 import untiedrings
 from untiedrings.parts import answers
-from tests.helper import GREATEST, all_out, ask, begin, cancel, hand, hold, part, real, sell
+from tests.helper import (GREATEST, all_out, all_parts, ask, begin, cancel, hand, hold, holding, inring, lost, part,
+                          plain, real, realstrewn, sell, state, strewn, wouldhand)
 
 LINE = (begin(1, 2) + hold(0, 0, 1, 2) + hold(2, 0, 1, 2) + hold(1, 1, 1, 2) + sell(0, 1, 0, 1, 4) + cancel(0)
-        + hand(0) + all_out([0, 1]) + part(0, 0) + real(0, 1) + cancel(2))
-TOLD = [1, 0, 3, 0, 0, 1, 3, 0, 0, 1, 3, 0, 0, 1, 5, 0, 1, 4, 1, 4, 3, 0, 1, 4, 1, 1, 1, 0, 3, 0, 1, 2,
-        3, 0, 1, 4, 1, -2]
+        + strewn(1) + realstrewn(0) + lost(0) + inring(1) + holding() + plain() + wouldhand(0, 1) + state()
+        + hand(0) + all_out([0, 1]) + part(0, 0) + real(0, 1) + cancel(2) + wouldhand(2, 0))
+TOLD = [1, 0, 3, 0, 0, 1, 3, 0, 0, 1, 3, 0, 0, 1, 5, 0, 1, 4, 1, 4, 3, 0, 1, 4,
+        3, 0, 1, 2, 3, 0, 1, 2, 3, 0, 0, 1, 1, 1, 3, 2, 0, 1, 1, 0, 7, 3, 1, 6, 0, 1, 1, 3, 2, 1, 2,
+        1, 1, 1, 0, 3, 0, 1, 2, 3, 0, 1, 4, 1, -2, 1, -2]
+# Calls that change nothing, where they answer and where they are refused.
+QUESTIONS = [lost(0), strewn(0), realstrewn(0), inring(0), holding(), plain(), wouldhand(0, 1), wouldhand(1, 1),
+             state(), part(3, 2), real(1, 2), lost(3), strewn(3), realstrewn(GREATEST), inring(3), wouldhand(3, 0),
+             wouldhand(0, 3), wouldhand(2, 0)]
 
 
 class Unchanging(list):
@@ -55,12 +62,13 @@ class Interface(unittest.TestCase):
 
     def test_how_many_numbers_are_answered(self):
         calls = [begin(1, 1), hold(0, 0, 1, 2), sell(0, 1, 0, 1, 4), cancel(0), hand(0), all_out([0]), part(0, 0),
-                 real(0, 0)]
-        self.assertEqual([len(answer) for answer in ask(calls)], [1, 3, 5, 3, 1, 1, 3, 3])
+                 real(0, 0), lost(0), strewn(0), realstrewn(0), inring(0), holding(), plain(), wouldhand(0, 0), state()]
+        self.assertEqual([len(answer) for answer in ask(calls)], [1, 3, 5, 3, 1, 1, 3, 3, 3, 3, 3, 1, 1, 1, 5, 2])
+        self.assertEqual(len(ask([begin(4, 5), wouldhand(0, 0)])[-1]), 19)
 
     def test_no_number_but_a_refusal_is_below_0(self):
         for answer in ask([begin(2, 2), hold(0, 0, 1, 2), sell(0, 1, 0, 1, 4), cancel(1), hand(5), cancel(0),
-                           real(0, 0), part(9, 0), all_out([9])]):
+                           real(0, 0), part(9, 0), all_out([9])] + QUESTIONS):
             self.assertEqual(len(answer) == 1 and answer[0] < 0, min(answer) < 0)
 
 
@@ -71,6 +79,18 @@ class NothingIsKept(unittest.TestCase):
         self.assertEqual(calls, LINE)
         self.assertEqual(answers(Unchanging(LINE)), TOLD)
         self.assertEqual(answers(Unchanging(all_out([0] * 255))), [1, -11])
+        asked = [0, 2, 3] + [number for question in QUESTIONS for number in question]
+        self.assertEqual(answers(Unchanging(asked)), answers(list(asked)))
+
+    def test_a_call_that_only_asks_changes_nothing(self):
+        calls = [begin(2, 3), hold(0, 0, 1, 6), hold(3, 0, 1, 2), hold(2, 0, 1, 4), hold(2, 1, 1, 3), hold(1, 1, 1, 3),
+                 hold(4, 2, 1, 1), hold(4, 1, 1, 4)]
+        parts = all_parts(calls, 2, 3)
+        told = ask(calls + QUESTIONS)[len(calls):]
+        for question in QUESTIONS:
+            self.assertEqual(all_parts(calls + [question], 2, 3), parts, question)
+            self.assertEqual(ask(calls + [question] + QUESTIONS)[len(calls) + 1:], told, question)
+        self.assertEqual(told[-7:], [[-2]] * 6 + [[-33]])
 
     def test_the_same_list_answers_the_same_again(self):
         others = ([], part(0, 0), begin(4, 5) + hold(0, 0, 1, 1) + hand(0), begin(0, 0), begin(1, 2) + hold(1, 0, 1, 1))

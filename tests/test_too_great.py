@@ -1,6 +1,7 @@
 import unittest
 
-from tests.helper import all_out, all_parts, ask, begin, cancel, hand, hold, last, part, real, sell
+from tests.helper import (all_out, all_parts, ask, begin, cancel, hand, hold, last, lost, part, real, realstrewn, sell,
+                          strewn, wouldhand)
 
 LIMIT = 10 ** 40
 # The greatest powers up to 100 of all primes up to 100; all of them together are more than the limit.
@@ -146,6 +147,27 @@ class TooGreat(unittest.TestCase):
     def test_what_is_really_owned_may_have_greater_numbers(self):
         told = last(UP + [hold(2 + AT, NEXT, 1, 3), hold(0, NEXT, 0, 1), real(0, NEXT)])
         self.assertEqual((told[0], told[2]), (0, 3 * LIMIT))
+
+    def test_what_is_strewn_may_have_greater_numbers(self):
+        told = last(UP + [hold(1, AT, 1, 3), strewn(AT)])
+        self.assertEqual((told[0], told[2]), (0, 3 * LIMIT))
+        told = last(UP + [hold(2 + AT, NEXT, 1, 3), hold(0, NEXT, 0, 1), realstrewn(NEXT)])
+        self.assertEqual((told[0], told[2]), (0, 3 * LIMIT))
+
+    def test_what_is_lost_may_have_greater_numbers(self):
+        # Company 4 holds itself wholly, and of company at a part whose lower number is just the limit.
+        calls, at = climb(2, 6, 4, [100] * 20)
+        behind = (at + 1) % 4
+        calls = [begin(2, 5)] + calls + [hold(6, 4, 1, 1), hold(6, behind, 0, 1), hold(2 + at, behind, 1, 3)]
+        told = last(calls + [lost(behind)])
+        self.assertEqual((told[0], told[2]), (0, 3 * LIMIT))
+        self.refused(calls, hand(at))
+
+    def test_what_would_be_handed_out_may_have_greater_numbers(self):
+        calls = UP + [hold(2 + AT, NEXT, 1, 3), hold(0, NEXT, 0, 1)]
+        self.refused(calls, hand(AT))
+        told = last(calls + [wouldhand(AT, NEXT)])
+        self.assertEqual((told[0], told[2]), (7, 3 * LIMIT))
 
 
 if __name__ == "__main__":

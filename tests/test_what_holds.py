@@ -3,23 +3,8 @@ from fractions import Fraction
 from itertools import permutations
 from random import Random
 
-from tests.helper import (GREATEST, Model, all_out, all_parts, all_real, ask, begin, cancel, hand, hold, last, owned,
-                          part, real, sell)
-
-RING = [begin(2, 3), hold(0, 0, 1, 6), hold(3, 0, 1, 2), hold(4, 0, 1, 3), hold(1, 1, 1, 4), hold(2, 1, 1, 4),
-        hold(3, 1, 1, 4), hold(4, 1, 1, 4), hold(0, 2, 2, 5), hold(2, 2, 1, 5), hold(3, 2, 2, 5)]
-
-
-def holdings(random, m, n, let):
-    """A begin and holds, at random; of each company the parts are let by let or less of it together."""
-    calls = [begin(m, n)]
-    for j in range(n):
-        left = let
-        for h in random.sample(range(m + n), random.randint(0, min(m + n, 7))):
-            a = random.randint(0, left)
-            left -= a
-            calls.append(hold(h, j, a, let))
-    return calls
+from tests.helper import (GREATEST, RING, Model, all_ends, all_out, all_parts, all_real, ask, begin, cancel, hand, hold,
+                          holdings, last, lost, of_each, owned, part, realstrewn, sell, strewn)
 
 
 def cases():
@@ -38,26 +23,50 @@ def cases():
 class WhatHolds(unittest.TestCase):
     def test_by_cancel_and_hand_nobody_gains_or_loses(self):
         for calls, m, n in cases():
-            straight = all_real(calls, m, n)
-            ends = owned(all_parts(calls, m, n), m, n)
+            ends = all_ends(calls, m, n)
             for i in range(n):
                 for call in (cancel(i), hand(i), all_out([i])):
                     behind = calls + [call]
-                    self.assertEqual(all_real(behind, m, n), straight, behind)
+                    self.assertEqual(all_ends(behind, m, n), ends, behind)
                     self.assertEqual(owned(all_parts(behind, m, n), m, n), ends, behind)
 
     def test_by_one_behind_another_nobody_gains_or_loses(self):
         for calls, m, n in cases():
-            straight = all_real(calls, m, n)
+            ends = all_ends(calls, m, n)
             behind = list(calls)
             for i in range(min(n, 3)):
                 behind += [hand(n - 1 - i)]
-                self.assertEqual(all_real(behind, m, n), straight, behind)
+                self.assertEqual(all_ends(behind, m, n), ends, behind)
 
-    def test_real_is_what_the_equations_say(self):
+    def test_by_all_in_whatever_order_nobody_gains_or_loses(self):
         for calls, m, n in cases():
-            ends = owned(all_parts(calls, m, n), m, n)
-            self.assertEqual(all_real(calls, m, n), {(p, j): ends[p][j] for p in range(m) for j in range(n)}, calls)
+            ends = all_ends(calls, m, n)
+            for order in list(permutations(range(n)))[::1 if n < 4 else 17]:
+                behind = calls + [all_out(order)]
+                self.assertGreaterEqual(last(behind)[0], 0, behind)
+                self.assertEqual(all_ends(behind, m, n), ends, behind)
+
+    def test_the_ends_are_what_the_equations_say(self):
+        for calls, m, n in cases():
+            self.assertEqual(all_ends(calls, m, n), owned(all_parts(calls, m, n), m, n), calls)
+
+    def test_the_ends_are_1_together(self):
+        for calls, m, n in cases():
+            ends = all_ends(calls, m, n)
+            self.assertEqual([sum(end[j] for end in ends) for j in range(n)], [1] * n, calls)
+            self.assertGreaterEqual(min(min(end) for end in ends), 0, calls)
+
+    def test_the_parts_and_what_is_strewn_are_1_together(self):
+        for calls, m, n in cases():
+            parts = all_parts(calls, m, n)
+            left = of_each(strewn, calls, n)
+            self.assertEqual([sum(parts[h, j] for h in range(m + n)) + left[j] for j in range(n)], [1] * n, calls)
+
+    def test_some_is_lost_in_some_cases_and_strewn_in_some(self):
+        # Or the tests above would say little of these.
+        for call in (lost, realstrewn):
+            told = [part for calls, m, n in cases() for part in of_each(call, calls, n)]
+            self.assertTrue({0, 1} < set(told))
 
     def test_all_having_handed_out_each_has_straight_what_they_really_owned(self):
         for calls, m, n in cases():
@@ -70,6 +79,7 @@ class WhatHolds(unittest.TestCase):
                 parts = all_parts(behind, m, n)
                 self.assertEqual({key: parts[key] for key in straight}, straight, behind)
                 self.assertEqual({parts[m + i, j] for i in range(n) for j in range(n)}, {0}, behind)
+                self.assertEqual(of_each(strewn, behind, n), of_each(realstrewn, calls, n), behind)
 
     def test_by_hand_in_every_order_too(self):
         straight = all_real(RING, 2, 3)
@@ -84,6 +94,7 @@ class WhatHolds(unittest.TestCase):
                     calls + [all_out(range(n))]]:
                 parts = all_parts(behind, m, n)
                 self.assertGreaterEqual(min(parts.values()), 0, behind)
+                self.assertGreaterEqual(min(of_each(strewn, behind, n)), 0, behind)
                 for j in range(n):
                     self.assertLessEqual(sum(parts[h, j] for h in range(m + n)), 1, behind)
 
@@ -105,7 +116,8 @@ def some_call(random, m, n):
     def company():
         return number(random, n)
 
-    kind = random.choice((0, 1, 1, 1, 1, 1, 2, 2, 3, 4, 4, 5, 6, 6, 7, 7, 7))
+    kind = random.choice((0, 1, 1, 1, 1, 1, 1, 1, 1, 2, 2, 2, 3, 4, 4, 5, 6, 6, 7, 7, 8, 9, 10, 11, 11, 12, 13, 14, 14,
+                          15))
     if kind == 0:
         return begin(number(random, 6), number(random, 7)) if random.random() < 0.02 else part(holder(), company())
     if kind == 1:
@@ -114,9 +126,13 @@ def some_call(random, m, n):
         return sell(holder(), holder(), company(), *some_part(random))
     if kind == 5:
         return all_out([company() for count in range(random.choice((0, 1, 2, 3, 5, 12, 12, 13)))])
-    if kind in (3, 4):
-        return [kind, company()]
-    return [kind, holder(), company()]
+    if kind in (12, 13, 15):
+        return [kind]
+    if kind == 14:
+        return [kind, company(), company()]
+    if kind in (6, 7):
+        return [kind, holder(), company()]
+    return [kind, company()]
 
 
 class AgainstTheModel(unittest.TestCase):

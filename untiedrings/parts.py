@@ -1,4 +1,4 @@
-"""Parts of companies that own one another: held, sold, cancelled and handed out.
+"""Parts of companies that own one another: held, sold, cancelled and handed out, and what comes of them in the end.
 
 A part is a fraction, told by a tuple of its upper and its lower number, always in lowest terms.
 The parts that are held are a list with a row for each holder, first the people, then the companies;
@@ -13,9 +13,16 @@ HAND = 4
 ALL_OUT = 5
 PART = 6
 REAL = 7
+LOST = 8
+STREWN = 9
+REALSTREWN = 10
+INRING = 11
+HOLDING = 12
+PLAIN = 13
+WOULDHAND = 14
+STATE = 15
 
-# How many numbers stand behind each call's own number, of all calls that the interface names;
-# all_out's one is how long its row is.
+# How many numbers stand behind each call's own number; all_out's one is how long its row is.
 SIZES = (2, 4, 5, 1, 1, 1, 2, 2, 1, 1, 1, 1, 0, 0, 2, 0)
 
 NOBODY = -2
@@ -81,6 +88,10 @@ def all_parts(held, j):
     return together
 
 
+def strewn_of(held, j):
+    return minus(WHOLE, all_parts(held, j))
+
+
 def is_too_great(held):
     for row in held:
         for part in row:
@@ -92,6 +103,24 @@ def is_too_great(held):
 def others_held(held, own, i):
     """Of how many other companies company i, which is the holder own, holds some."""
     return len([j for j in range(len(held[own])) if j != i and held[own][j] != NONE])
+
+
+def holding_others(held, people):
+    """The companies that hold some of another one, rising."""
+    return [i for i in range(len(held) - people) if others_held(held, people + i, i) > 0]
+
+
+def is_in_ring(held, people, i):
+    """Whether one comes back to company i by what it holds some of, what that holds some of, and so on."""
+    reached = []
+    waiting = [i]
+    while len(waiting) > 0:
+        row = held[people + waiting.pop()]
+        for j in range(len(row)):
+            if row[j] != NONE and j not in reached:
+                reached.append(j)
+                waiting.append(j)
+    return i in reached
 
 
 def cancelled(held, own, i):
@@ -199,7 +228,7 @@ class Rings:
         if len(row) > LONGEST_ROW or not all([self.has_company(i) for i in row]):
             return [NOT_RIGHT]
         fresh = all_handed_out(self.held, self.people, row)
-        return self.settle(fresh, [len(self.holding(fresh))])
+        return self.settle(fresh, [len(holding_others(fresh, self.people))])
 
     def part(self, h, j):
         if not (self.has_holder(h) and self.has_company(j)):
@@ -209,14 +238,54 @@ class Rings:
     def really_owns(self, p, j):
         if not (p < self.people and self.has_company(j)):
             return [NOBODY]
-        # Nobody gains or loses when all hand out, and then nothing is left to go on but what is lost:
-        # the parts that companies which hold themselves wholly have. So a person's part is what they really own.
-        last = all_handed_out(self.held, self.people, list(range(self.companies)))
-        return [0] + list(last[p][j])
+        return [0] + list(self.in_the_end()[p][j])
 
-    def holding(self, held):
-        """The companies that hold some of another one, by the parts held."""
-        return [i for i in range(self.companies) if others_held(held, self.people + i, i) > 0]
+    def lost(self, j):
+        if not self.has_company(j):
+            return [NOBODY]
+        return [0] + list(all_parts(self.in_the_end()[self.people:], j))
+
+    def strewn(self, j):
+        if not self.has_company(j):
+            return [NOBODY]
+        return [0] + list(strewn_of(self.held, j))
+
+    def realstrewn(self, j):
+        if not self.has_company(j):
+            return [NOBODY]
+        return [0] + list(strewn_of(self.in_the_end(), j))
+
+    def inring(self, i):
+        if not self.has_company(i):
+            return [NOBODY]
+        return [1 if is_in_ring(self.held, self.people, i) else 0]
+
+    def holding(self):
+        found = holding_others(self.held, self.people)
+        return [len(found)] + found
+
+    def plain(self):
+        return [1 if len(holding_others(self.held, self.people)) == 0 else 0]
+
+    def wouldhand(self, i, j):
+        if not (self.has_company(i) and self.has_company(j)):
+            return [NOBODY]
+        if self.holds_itself_wholly(i):
+            return [CANNOT_BE]
+        told = [self.people + self.companies]
+        for row in handed_out(self.held, self.people + i, i):
+            told.extend(row[j])
+        return told
+
+    def state(self):
+        return [self.people, self.companies]
+
+    def in_the_end(self):
+        """The parts when all have handed out: by them nothing goes on but what is lost."""
+        # Nobody gains or loses by that, and who has handed out gets nothing more. So the companies' parts are
+        # those of the ones that hold themselves wholly, lost; a person's part is what they really own;
+        # and what is strewn then is strewn in the end.
+        return all_handed_out(self.held, self.people, list(range(self.companies)))
 
     def settle(self, fresh, answer):
         """Keep the fresh parts and give the answer, unless the parts' numbers are too great."""
@@ -235,12 +304,8 @@ def end_of_call(calls, start):
     return end
 
 
-def answer_call(rings, number, given):
-    """What rings answers to the call of that number, with the numbers given behind it."""
-    if number == BEGIN:
-        return rings.begin(given[0], given[1])
-    if not rings.has_begun():
-        return [BEFORE_BEGIN]
+def answer_change(rings, number, given):
+    """What rings answers to a call that may change parts."""
     if number == HOLD:
         return rings.hold(given[0], given[1], given[2], given[3])
     if number == SELL:
@@ -249,13 +314,41 @@ def answer_call(rings, number, given):
         return rings.cancel(given[0])
     if number == HAND:
         return rings.hand(given[0])
-    if number == ALL_OUT:
-        return rings.all_out(given[1:])
+    return rings.all_out(given[1:])
+
+
+def answer_question(rings, number, given):
+    """What rings answers to a call that changes nothing."""
     if number == PART:
         return rings.part(given[0], given[1])
     if number == REAL:
         return rings.really_owns(given[0], given[1])
-    raise NotImplementedError(f"call {number} is not written yet")
+    if number == LOST:
+        return rings.lost(given[0])
+    if number == STREWN:
+        return rings.strewn(given[0])
+    if number == REALSTREWN:
+        return rings.realstrewn(given[0])
+    if number == INRING:
+        return rings.inring(given[0])
+    if number == HOLDING:
+        return rings.holding()
+    if number == PLAIN:
+        return rings.plain()
+    if number == WOULDHAND:
+        return rings.wouldhand(given[0], given[1])
+    return rings.state()
+
+
+def answer_call(rings, number, given):
+    """What rings answers to the call of that number, with the numbers given behind it."""
+    if number == BEGIN:
+        return rings.begin(given[0], given[1])
+    if not rings.has_begun():
+        return [BEFORE_BEGIN]
+    if number <= ALL_OUT:
+        return answer_change(rings, number, given)
+    return answer_question(rings, number, given)
 
 
 def answers(calls):
